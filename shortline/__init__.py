@@ -1,0 +1,1 @@
+"""A line made shorter: strings that have gone by are sent as their numbers."""
