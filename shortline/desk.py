@@ -42,7 +42,31 @@ def answer_flush(modem, reader):
     return modem.flush(most)
 
 
-CALLS = {0: answer_begin, 1: answer_put, 2: answer_flush}
+def answer_mode(modem, reader):
+    compressed = reader.take_number()
+    most = reader.take_number()
+    return modem.mode(compressed, most)
+
+
+def answer_reset(modem, reader):
+    most = reader.take_number()
+    return modem.reset(most)
+
+
+def answer_take(modem, reader):
+    most = reader.take_number()
+    row = reader.take_row()
+    return modem.take(most, row)
+
+
+CALLS = {
+    0: answer_begin,
+    1: answer_put,
+    2: answer_flush,
+    3: answer_mode,
+    4: answer_reset,
+    5: answer_take,
+}
 
 
 def answers(calls):

@@ -1,22 +1,16 @@
 """The sender: the bytes that are put in, and the octets that go for them."""
 
+from shortline.lineend import ESCAPE_ITSELF, ESCAPE_RESET, ESCAPE_SHORT, LineEnd
 from shortline.packer import OCTET_BITS, Packer
-from shortline.tree import FIRST_BYTE, FLUSH, STEP, Tree
-
-FIRST_BITS = 9
-ESCAPE_STEP = 51
-BYTE_VALUES = 256
-ESCAPE_ITSELF = 1
+from shortline.tree import END, FIRST_BYTE, FLUSH, STEP
 
 
-class Sender:
+# What each call gives back is the octets that go by it.
+class Sender(LineEnd):
 
     def __init__(self, codes, longest):
-        self.tree = Tree(codes, longest)
+        LineEnd.__init__(self, codes, longest)
         self.packer = Packer()
-        self.short = False
-        self.escape = 0
-        self.bits = FIRST_BITS
         # the number of the string that is gathered, or None
         self.string = None
         # the node that the string before added, or None; the receiver adds it
@@ -25,16 +19,12 @@ class Sender:
 
     def copy(self):
         twin = Sender(self.tree.codes, self.tree.longest)
-        twin.tree = self.tree.copy()
+        twin.become_like(self)
         twin.packer = self.packer.copy()
-        twin.short = self.short
-        twin.escape = self.escape
-        twin.bits = self.bits
         twin.string = self.string
         twin.fresh = self.fresh
         return twin
 
-    # The octets that go for a row of bytes.
     def put(self, row):
         for byte in row:
             if self.short:
@@ -44,10 +34,11 @@ class Sender:
         return self.packer.hand_over()
 
     def put_plain(self, byte):
-        self.packer.push(byte, OCTET_BITS)
         if byte == self.escape:
-            self.packer.push(ESCAPE_ITSELF, OCTET_BITS)
-            self.escape = (self.escape + ESCAPE_STEP) % BYTE_VALUES
+            self.push_escape(ESCAPE_ITSELF)
+            self.move_escape()
+        else:
+            self.packer.push(byte, OCTET_BITS)
 
     def put_short(self, byte):
         if self.string is None:
@@ -61,16 +52,39 @@ class Sender:
         self.fresh = self.tree.add(self.string, byte)
         self.string = FIRST_BYTE + byte
 
-    # The octets that go so that the other end has all that was put in. A plain sender
-    # has no string gathered, so it needs no branch of its own.
+    # A plain sender has no string gathered, so it needs no branch of its own.
     def flush(self):
         if self.string is not None:
-            self.send(self.string)
-            self.send(FLUSH)
-            self.packer.fill_up()
-            self.string = None
-            self.fresh = None
+            self.send_string_and_sign(FLUSH)
         return self.packer.hand_over()
+
+    def to_short(self):
+        self.push_escape(ESCAPE_SHORT)
+        self.short = True
+        return self.packer.hand_over()
+
+    def to_plain(self):
+        self.send_string_and_sign(END)
+        self.short = False
+        return self.packer.hand_over()
+
+    def reset(self):
+        self.push_escape(ESCAPE_RESET)
+        self.start_anew()
+        return self.packer.hand_over()
+
+    def push_escape(self, meaning):
+        self.packer.push(self.escape, OCTET_BITS)
+        self.packer.push(meaning, OCTET_BITS)
+
+    # The string goes whole, so it adds nothing, and the next one may take any node.
+    def send_string_and_sign(self, sign):
+        if self.string is not None:
+            self.send(self.string)
+        self.send(sign)
+        self.packer.fill_up()
+        self.string = None
+        self.fresh = None
 
     def send(self, number):
         while number.bit_length() > self.bits:

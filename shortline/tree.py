@@ -1,5 +1,6 @@
 """The tree of strings that both ends of a line grow by the same rule."""
 
+END = 0
 FLUSH = 1
 STEP = 2
 FIRST_BYTE = 3
@@ -35,8 +36,23 @@ class Tree:
     def find(self, number, byte):
         return self.nodes.get((number, byte))
 
+    # Whether a number is a string's: a byte's, or that of a node that is there.
+    def holds(self, number):
+        return FIRST_BYTE <= number < FIRST_NODE or number in self.ends
+
     def length_of(self, number):
         return self.lengths.get(number, 1)
+
+    # A string's bytes: a node tells its last one, so they are found from behind.
+    def bytes_of(self, number):
+        backward = []
+        while number in self.ends:
+            end = self.ends[number]
+            backward.append(end[1])
+            number = end[0]
+        backward.append(number - FIRST_BYTE)
+        backward.reverse()
+        return backward
 
     # The node that was added, or None where the rule adds none.
     def add(self, number, byte):

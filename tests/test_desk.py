@@ -26,6 +26,16 @@ class Answers(unittest.TestCase):
     def test_bytes_that_look_like_calls(self):
         self.assertEqual(answers([0, 512, 6, 1, 9, 4, 1, 2, 1, 2, 2, 9]), [1, 0, 5, 4, 1, 2, 1, 2, 1, 0])
 
+    def test_all_calls(self):
+        calls = [0, 512, 6, 3, 1, 9, 1, 9, 1, 97, 2, 9, 3, 0, 9, 4, 9, 5, 9, 4, 7, 0, 0, 100, 5, 9, 2, 2, 0]
+        expected = [1, 0, 3, 2, 0, 0, 1, 0, 4, 3, 100, 2, 0, 3, 2, 0, 0, 3, 2, 0, 2, 2, 1, 7, 2, 1, 97]
+        self.assertEqual(answers(calls), expected)
+
+    def test_each_refusal(self):
+        calls = [0, 512, 6, 3, 0, 9, 3, 2, 9, 3, 1, 1, 4, 1, 4, 16777217, 5, 9, 2, 0, 3, 5, 0, 1, 7, 5, 16777217, 1, 7]
+        expected = [1, 0, 1, -3, 1, -2, 1, -5, 1, -5, 1, -2, 1, -1, 1, -5, 1, -2]
+        self.assertEqual(answers(calls), expected)
+
     def test_400_calls(self):
         calls = [0, 512, 6] + [1, 2, 1, 0] * 399
         expected = [1, 0, 3, 2, 0, 1] + [2, 1, 0] * 398
@@ -36,7 +46,8 @@ class Answers(unittest.TestCase):
         self.assertEqual(answers([0, 512, 6, 1, 30000, len(row)] + row), [1, 0, len(row) + 1, len(row)] + row)
 
     def test_what_is_handed_in_is_as_it_was(self):
-        calls = [0, 512, 6, 1, 100, 3, 0, 51, 8, 2, 100, 1, 0, 1, 5]
+        calls = [0, 512, 6, 1, 100, 3, 0, 51, 8, 2, 100, 1, 0, 1, 5, 3, 1, 9, 1, 9, 1, 5, 3, 0, 9, 4, 9]
+        calls += [5, 9, 3, 0, 1, 7, 5, 9, 5, 51, 0, 100, 2, 0, 5, 0, 2, 100, 2, 5, 9, 2, 0, 3]
         kept = list(calls)
         answers(calls)
         self.assertEqual(calls, kept)
@@ -60,14 +71,15 @@ class Answers(unittest.TestCase):
         self.assertEqual(answers(calls), first)
 
     def test_whole_numbers_in_a_list(self):
-        given = answers([0, 512, 6, 1, 100, 2, 0, 8, 2, 16777217])
+        calls = [0, 512, 6, 1, 100, 2, 0, 8, 2, 16777217, 3, 1, 9, 3, 0, 9, 4, 9, 5, 9, 7, 0, 1, 7, 51, 0, 100, 2]
+        given = answers(calls)
         self.assertIs(type(given), list)
         self.assertTrue(all(type(number) is int for number in given))
 
     def test_nothing_is_printed(self):
         printed = io.StringIO()
         with contextlib.redirect_stdout(printed), contextlib.redirect_stderr(printed):
-            answers([0, 512, 6, 1, 100, 2, 0, 8, 1, 0, 1, 8, 2, 0])
+            answers([0, 512, 6, 1, 100, 2, 0, 8, 1, 0, 1, 8, 2, 0, 3, 1, 9, 4, 9, 5, 9, 2, 0, 3, 5, 9, 1, 7])
         self.assertEqual(printed.getvalue(), "")
 
 

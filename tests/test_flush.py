@@ -1,7 +1,6 @@
 import unittest
 
-from helper import ask, begin, came, flush, put, short_sender
-from shortline.modem import Modem
+from helper import ask, begin, begun, came, flush, put, short_sender
 
 
 class FlushPlain(unittest.TestCase):
@@ -78,9 +77,8 @@ class FlushShort(unittest.TestCase):
 
 class FlushShortRefusals(unittest.TestCase):
     def modem(self):
-        modem = Modem()
-        modem.begin(512, 6)
-        modem.sender = short_sender()
+        modem = begun()
+        modem.mode(1, 2)
         modem.put(2000, [97])
         return modem
 

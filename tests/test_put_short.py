@@ -2,9 +2,8 @@ import random
 import unittest
 
 from helper import (
-    FLUSH, STEP, ModelSender, came, model_take, octets_of, read_numbers, short_sender, stride_pairs,
+    FLUSH, STEP, ModelSender, begun, came, model_take, octets_of, read_numbers, short_sender, stride_pairs,
 )
-from shortline.modem import Modem
 
 
 def numbers_sent(row, codes=512, longest=6):
@@ -310,9 +309,8 @@ class Against(unittest.TestCase):
 
 class ShortRefusals(unittest.TestCase):
     def modem(self):
-        modem = Modem()
-        modem.begin(512, 6)
-        modem.sender = short_sender()
+        modem = begun()
+        modem.mode(1, 2)
         return modem
 
     def test_octets_that_wait_are_not_counted(self):
@@ -322,8 +320,8 @@ class ShortRefusals(unittest.TestCase):
 
     def call_by_call(self, codes, longest, row, size):
         """Small calls with a refused one ahead of each, beside the model, which is never asked those."""
-        modem = Modem()
-        modem.sender = short_sender(codes, longest)
+        modem = begun(codes, longest)
+        modem.mode(1, 2)
         model = ModelSender(codes, longest)
         gone = []
         for k in range(0, len(row), size):
