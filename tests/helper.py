@@ -89,6 +89,20 @@ def stride_pairs(stride):
     return [k * stride % 256 for k in range(256)]
 
 
+def words(generator, letters, count):
+    """Rows that say the same words again and again, with a stray byte between."""
+    known = [[generator.randrange(letters) for k in range(generator.randrange(1, 12))] for w in range(12)]
+    rows = []
+    for k in range(count):
+        row = []
+        while generator.randrange(8):
+            row += generator.choice(known)
+            if generator.randrange(4) == 0:
+                row.append(generator.randrange(letters))
+        rows.append(row)
+    return rows
+
+
 def bits_of(octets):
     return [octet >> k & 1 for octet in octets for k in range(8)]
 

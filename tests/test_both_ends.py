@@ -5,24 +5,10 @@ import unittest
 
 from helper import (
     FLUSH, TO_SHORT, ModelModem, ask, begin, begun, came, flush, laid, mode, put, read_numbers, reset, stride_pairs,
-    take,
+    take, words,
 )
 
 MOST = 4000
-
-
-def words(generator, letters, count):
-    """Rows that say the same words again and again, with a stray byte between."""
-    known = [[generator.randrange(letters) for k in range(generator.randrange(1, 12))] for w in range(12)]
-    rows = []
-    for k in range(count):
-        row = []
-        while generator.randrange(8):
-            row += generator.choice(known)
-            if generator.randrange(4) == 0:
-                row.append(generator.randrange(letters))
-        rows.append(row)
-    return rows
 
 
 def sender_calls(generator, rows):

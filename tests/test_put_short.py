@@ -3,6 +3,7 @@ import unittest
 
 from helper import (
     FLUSH, STEP, ModelSender, begun, came, model_take, octets_of, read_numbers, short_sender, stride_pairs,
+    words,
 )
 
 
@@ -264,17 +265,7 @@ class Against(unittest.TestCase):
     """The sender beside the model, which keeps whole strings."""
 
     def rows(self, seed, letters, rounds):
-        generator = random.Random(seed)
-        words = [[generator.randrange(letters) for k in range(generator.randrange(1, 12))] for w in range(12)]
-        rows = []
-        for k in range(rounds):
-            row = []
-            while generator.randrange(8):
-                row += generator.choice(words)
-                if generator.randrange(4) == 0:
-                    row.append(generator.randrange(letters))
-            rows.append(row)
-        return rows
+        return words(random.Random(seed), letters, rounds)
 
     def compare(self, codes, longest, rows, flush_each):
         sender = short_sender(codes, longest)
